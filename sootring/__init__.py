@@ -1,0 +1,1 @@
+"""Sootring: coals of six-sided cells, and the pairings of their corners."""
