@@ -6,11 +6,16 @@ def is_whole(thing):
     return isinstance(thing, int) and not isinstance(thing, bool)
 
 
-def is_cell(thing):
-    """Whether any thing is a cell."""
+def is_pair(thing):
+    """Whether any thing is a tuple of two whole numbers."""
     if not isinstance(thing, tuple) or len(thing) != 2:
         return False
     return is_whole(thing[0]) and is_whole(thing[1])
+
+
+def is_cell(thing):
+    """Whether any thing is a cell."""
+    return is_pair(thing)
 
 
 def beside(cell):

@@ -3,26 +3,14 @@
 import copy
 import unittest
 
-from helper import BIG, LONG_RING, NO_CELLS, RING, TWO_RINGS, mixed, moved, refusal, row, shapes
+from helper import (
+    BENT, BIG, BLOCK, FLOWER, LONG_RING, NO_CELLS, RING, TRIANGLE, TWO_RINGS, answers, mixed, moved, refusal, row,
+    shapes, some_coals,
+)
 from sootring.cells import beside
 from sootring.coal import MOST_CELLS, Coal
 from sootring.errors import NoCell, NoCoal, NoNumber, Twice
 from sootring.points import corners_of, is_light
-
-FLOWER = RING + [(0, 0)]
-BLOCK = [(a, b) for a in range(7) for b in range(2)]
-TRIANGLE = [(a, b) for a in range(4) for b in range(4) if a + b < 4]
-BENT = row(7) + row(7, 6, 1, (0, 1))
-
-
-def some_coals():
-    """Lists of cells of which a coal can be made, of all sizes from 1 to 14."""
-    lists = [cells for many, found in shapes(4) for cells in found]
-    lists += [row(many, -2, 3) for many in range(5, 15)]
-    lists += [row(14, 5, -5, (1, -1)), row(14, 0, 0, (0, 1)), FLOWER, BLOCK, TRIANGLE, BENT]
-    lists += [[cell for cell in RING if cell != other] for other in RING]
-    lists += [moved(FLOWER, BIG, -BIG), moved(BENT, -BIG, 4)]
-    return lists
 
 
 class Making(unittest.TestCase):
@@ -264,16 +252,6 @@ class Numbers(unittest.TestCase):
             refusal(ask, -1)
             refusal(ask, 99)
         self.assertEqual(answers(coal), before)
-
-
-def answers(coal):
-    """All that a coal tells."""
-    cells = range(coal.many())
-    points = range(len(coal.points()))
-    return (
-        coal.cells(), coal.many(), coal.points(), coal.ties(), [coal.corners(k) for k in cells],
-        [coal.sides(k) for k in cells], [coal.near(k) for k in points],
-    )
 
 
 class NeverChanging(unittest.TestCase):

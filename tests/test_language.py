@@ -70,6 +70,12 @@ def drawn_from(path):
     return [PACKAGE / (node.module.split(".", 1)[1] + ".py") for node in rows]
 
 
+def names_drawn(path):
+    """The names that a file imports."""
+    rows = [node for node in tree_of(path).body if isinstance(node, ast.ImportFrom)]
+    return {name.name for node in rows for name in node.names}
+
+
 class Files(unittest.TestCase):
 
     def test_nothing_but_python_files(self):
@@ -123,6 +129,12 @@ class Imports(unittest.TestCase):
             self.assertEqual(len(bound), len(set(bound)), path.name)
 
 
+    def test_imports_are_used(self):
+        for path in FILES:
+            used = {node.id for node in ast.walk(tree_of(path)) if isinstance(node, ast.Name)}
+            self.assertEqual(names_drawn(path) - used, set(), path.name)
+
+
 class Forms(unittest.TestCase):
 
     def test_plain_nodes(self):
@@ -157,6 +169,24 @@ class Forms(unittest.TestCase):
         for place, node in nodes(ast.For, ast.While):
             self.assertEqual(node.orelse, [], place)
 
+    def test_sets_stand_where_they_may(self):
+        for path in FILES:
+            allowed = []
+            for node in ast.walk(tree_of(path)):
+                if isinstance(node, ast.Call) and isinstance(node.func, ast.Name) and node.func.id in ("sorted", "len"):
+                    allowed += [] if node.keywords else [ast.dump(node.args[0], include_attributes=True)]
+            for node in ast.walk(tree_of(path)):
+                if isinstance(node, ast.Call) and isinstance(node.func, ast.Name) and node.func.id == "set":
+                    self.assertIn(ast.dump(node, include_attributes=True), allowed, path.name)
+                self.assertNotIsInstance(node, (ast.Set, ast.Pow), path.name)
+
+    def test_walks_are_not_kept(self):
+        for place, node in nodes(ast.Assign, ast.Return):
+            if isinstance(node.value, ast.Call):
+                told = node.value.func
+                name = told.id if isinstance(told, ast.Name) else told.attr
+                self.assertNotIn(name, ("zip", "enumerate", "reversed", "range", "items", "keys", "values"), place)
+
     def test_is_stands_beside_none_and_truths(self):
         for place, node in nodes(ast.Compare):
             for sign, right in zip(node.ops, node.comparators):
@@ -183,6 +213,15 @@ class Names(unittest.TestCase):
         for place, name in told:
             self.assertTrue(name in OWN_UNDERSCORES or re.match(r"^[A-Za-z][A-Za-z0-9_]*$", name), f"{place} {name}")
             self.assertNotIn(name, NO_NAMES, place)
+
+    def test_locals_are_not_called_like_imports_or_classes(self):
+        for path in FILES:
+            classes = {node.name for node in tree_of(path).body if isinstance(node, ast.ClassDef)}
+            for node in ast.walk(tree_of(path)):
+                if isinstance(node, ast.Name) and isinstance(node.ctx, ast.Store):
+                    self.assertNotIn(node.id, names_drawn(path) | classes, path.name)
+                if isinstance(node, ast.arg):
+                    self.assertNotIn(node.arg, names_drawn(path) | classes, path.name)
 
     def test_methods(self):
         own = set()
