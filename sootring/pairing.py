@@ -1,8 +1,8 @@
 """Pairings of the points of a coal, or points that show why there are none."""
 
 from sootring.cells import is_pair
-from sootring.coal import numbered
-from sootring.errors import NoPairing
+from sootring.coal import neighbours_by, numbered
+from sootring.errors import NoPairing, Unpaired
 
 
 def is_pairing(coal, thing):
@@ -83,3 +83,17 @@ def paired(coal):
     if found[0] is None:
         return ("short", found[1])
     return ("paired", ties_of(found[0]))
+
+
+def check_paired(coal):
+    """Refuse a coal that has no pairing."""
+    if paired(coal)[0] == "short":
+        raise Unpaired("the coal has no pairing")
+
+
+def pairing_among(coal, ties):
+    """A pairing that has ties of this list alone, or None."""
+    found = pair_up(neighbours_by(ties, len(coal.points())))
+    if found[0] is None:
+        return None
+    return ties_of(found[0])

@@ -100,6 +100,11 @@ ZIGZAG = [((k + 1) // 2, k // 2) for k in range(14)]
 GOBLET = row(3, 0, -2) + row(2, 0, -1) + row(1) + row(2, -1, 1) + row(3, -2, 2)
 # The same with a part more, up to fourteen cells.
 GOBLETS = [GOBLET, GOBLET + [(3, -3)], GOBLET + [(-3, 2), (-4, 2)], GOBLET + [(3, -2), (4, -2), (5, -3)]]
+# Lists of cells that make coals without a pairing, for want of points of one colour or for another reason.
+UNPAIRED = [TRIANGLE, [(0, 0), (1, 0), (0, 1)], moved([(0, 0), (0, 1), (-1, 1)], BIG, -BIG)] + GOBLETS
+# The two pairings of a coal of one cell: the first has its sides 0, 2 and 4, the second its sides 1, 3 and 5.
+UP = [(0, 1), (2, 5), (3, 4)]
+DOWN = [(0, 3), (1, 2), (4, 5)]
 # Three arms from one cell, and branches on them: of the coals of fourteen cells one with many pairings.
 BRANCHED = [
     (0, 0), (0, 1), (-1, 2), (1, 1), (-1, 3), (2, 0), (-2, 2),

@@ -3,8 +3,8 @@
 import unittest
 
 from helper import (
-    BENT, BIG, BLOCK, BRANCHED, FLOWER, GOBLET, GOBLETS, TRIANGLE, ZIGZAG, big_coals, check_own, check_refused,
-    coals_to_pair, grown, moved, no_numbers, no_pairings, pairings_anew, row, shapes, spoil,
+    BENT, BIG, BLOCK, BRANCHED, DOWN, FLOWER, GOBLET, TRIANGLE, UNPAIRED, UP, ZIGZAG, big_coals, check_own,
+    check_refused, coals_to_pair, grown, moved, no_numbers, no_pairings, pairings_anew, row, shapes, spoil,
 )
 from sootring.cells import holes
 from sootring.coal import Coal
@@ -16,7 +16,7 @@ from sootring.pairing import is_pairing, paired
 class AllPairings(unittest.TestCase):
 
     def test_one_cell(self):
-        self.assertEqual(pairings(Coal([(0, 0)])), [[(0, 1), (2, 5), (3, 4)], [(0, 3), (1, 2), (4, 5)]])
+        self.assertEqual(pairings(Coal([(0, 0)])), [UP, DOWN])
 
     def test_two_cells(self):
         self.assertEqual(pairings(Coal(row(2))), [
@@ -46,7 +46,7 @@ class AllPairings(unittest.TestCase):
             self.assertTrue(all(one < other for one, other in zip(told, told[1:])))
 
     def test_a_coal_without_one(self):
-        for cells in [TRIANGLE] + GOBLETS:
+        for cells in UNPAIRED:
             self.assertEqual(pairings(Coal(cells)), [])
 
     def test_lists_are_the_asker_s_own(self):
@@ -146,7 +146,7 @@ class Numbers(unittest.TestCase):
 
     def test_a_coal_without_one(self):
         pairing = pairings_anew(Coal(row(1)))[0]
-        for cells in [TRIANGLE] + GOBLETS:
+        for cells in UNPAIRED:
             coal = Coal(cells)
             for thing in no_pairings(coal, pairing) + [pairing, coal.ties()]:
                 check_refused(self, NoPairing, number_of, coal, thing)

@@ -3,33 +3,29 @@
 import unittest
 
 from helper import (
-    BIG, BRANCHED, FLOWER, GOBLETS, TRIANGLE, big_coals, check_own, coals_to_pair, grown, mixed, moved, no_pairings,
-    pairings_anew, row, shapes, spoil, refusal,
+    BIG, BRANCHED, DOWN, FLOWER, GOBLETS, TRIANGLE, UNPAIRED, UP, big_coals, check_own, coals_to_pair, grown, mixed,
+    moved, no_pairings, pairings_anew, refusal, row, shapes, spoil,
 )
 from sootring.cells import holes
 from sootring.coal import Coal
 from sootring.pairing import is_pairing, paired
 from sootring.points import is_light
 
-# The points of one cell: 0-1-2-5-4-3-0 round it.
-ONE = [(0, 1), (2, 5), (3, 4)]
-OTHER = [(0, 3), (1, 2), (4, 5)]
-
 
 class IsPairing(unittest.TestCase):
 
     def test_one_cell(self):
         coal = Coal([(0, 0)])
-        self.assertIs(is_pairing(coal, ONE), True)
-        self.assertIs(is_pairing(coal, OTHER), True)
-        self.assertIs(is_pairing(Coal([(BIG, -BIG)]), OTHER), True)
+        self.assertIs(is_pairing(coal, UP), True)
+        self.assertIs(is_pairing(coal, DOWN), True)
+        self.assertIs(is_pairing(Coal([(BIG, -BIG)]), DOWN), True)
 
     def test_every_choice_of_three_ties_of_one_cell(self):
         coal = Coal([(0, 0)])
         pairs = [(i, j) for i in range(-1, 7) for j in range(-1, 7)]
         found = [[one, two, three] for one in pairs for two in pairs for three in pairs
                  if is_pairing(coal, [one, two, three])]
-        self.assertEqual(found, [ONE, OTHER])
+        self.assertEqual(found, [UP, DOWN])
 
     def test_all_pairings_are_such(self):
         for coal in coals_to_pair():
@@ -62,14 +58,14 @@ class IsPairing(unittest.TestCase):
 
     def test_a_pairing_of_another_coal(self):
         coal = Coal(row(2))
-        self.assertIs(is_pairing(coal, ONE), False)
+        self.assertIs(is_pairing(coal, UP), False)
         self.assertIs(is_pairing(Coal([(0, 0)]), pairings_anew(coal)[0]), False)
         for pairing in pairings_anew(Coal(row(2))):
             self.assertIs(is_pairing(Coal(row(2, 0, 0, (1, -1))), pairing),
                           pairing in pairings_anew(Coal(row(2, 0, 0, (1, -1)))))
 
     def test_a_coal_without_one(self):
-        for cells in [TRIANGLE] + GOBLETS:
+        for cells in UNPAIRED:
             coal = Coal(cells)
             ties = coal.ties()
             self.assertIs(is_pairing(coal, ties), False)
