@@ -1,6 +1,7 @@
 """What several test files need: lists of cells to try, and ways to reckon answers anew."""
 
 import copy
+from functools import lru_cache
 
 from sootring.cells import holes
 from sootring.coal import Coal
@@ -167,6 +168,40 @@ def pairings_anew(coal):
 
     go_on(frozenset(near), [])
     return sorted(found)
+
+
+def most_ringed_anew(coal):
+    """How many cells can be ringed at once, by trying all ways to part the points, or None where there are none."""
+    near = [coal.near(point) for point in range(len(coal.points()))]
+    corners = [frozenset(coal.corners(cell)) for cell in range(coal.many())]
+
+    @lru_cache(None)
+    def most(free):
+        if not free:
+            return 0
+        point = min(free)
+        ways = [(0, free - {point, other}) for other in near[point] if other in free]
+        ways += [(1, free - cell) for cell in corners if point in cell and cell <= free]
+        found = [(more, most(left)) for more, left in ways]
+        return max([more + rest for more, rest in found if rest is not None], default=None)
+
+    return most(frozenset(range(len(near))))
+
+
+def in_order(cells):
+    """The cells in an order in which each beginning makes a coal, from the first one on."""
+    found = cells[:1]
+    left = cells[1:]
+    while left:
+        new = next(cell for cell in left if refusal(Coal, found + [cell]) is None)
+        found.append(new)
+        left.remove(new)
+    return found
+
+
+def laid_from_nought(cells):
+    """The cells laid so that the first one comes to lie at (0, 0), in an order in which a book can be put to them."""
+    return in_order(moved(cells, -cells[0][0], -cells[0][1]))
 
 
 def no_pairings(coal, pairing):
