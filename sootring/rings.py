@@ -74,6 +74,8 @@ def cheapest_ways(steps, start):
 
 def send_one(arcs, flow, start, end):
     """Change the flow so that one more goes from the start to the end, as cheaply as can be."""
+    # There always is a way: over three ties flow may come to a cell, and over three leave it, so no group of places
+    # can only be left, or only be come to, and all hang together.
     last_steps = cheapest_ways(steps_left(arcs, flow), start)[1]
     place = end
     while place != start:
